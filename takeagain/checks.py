@@ -1,4 +1,4 @@
-"""The checks that every part of the program needs: of numbers, factors and heaps."""
+"""The checks that several parts of the program need: of numbers, factors, heaps and takings."""
 
 from takeagain.errors import BadFactor, BadHeap
 
@@ -10,6 +10,18 @@ def is_whole(value, least):
     # isinstance would let True and False pass, and things that only pose as numbers,
     # whose own comparisons could raise errors that are no refusal.
     return type(value) is int and value >= least
+
+
+def is_whole_list(numbers, least):
+    """Tell whether the numbers are a list of whole numbers from `least` on."""
+    if type(numbers) is not list:
+        return False
+    return all(is_whole(number, least) for number in numbers)
+
+
+def is_taking(heap, limit, taking):
+    """Tell whether so many can be taken from the heap within the limit."""
+    return is_whole(taking, 1) and taking <= heap and taking <= limit
 
 
 def check_factor(factor):

@@ -1,6 +1,6 @@
 """Steps by a factor, and the sums of unlike steps that tell every number."""
 
-from takeagain.checks import check_factor, check_heap, is_whole
+from takeagain.checks import check_factor, check_heap, is_whole, is_whole_list
 from takeagain.errors import BadNumber, BadSum
 
 GREATEST_NUMBER = 3000
@@ -72,8 +72,5 @@ def check_number(number):
 
 def check_whole_parts(parts):
     """Refuse what is no list of whole numbers from 1 on."""
-    if type(parts) is not list:
-        raise BadSum("a sum is a list")
-    for part in parts:
-        if not is_whole(part, 1):
-            raise BadSum("each part of a sum is a whole number from 1 on")
+    if not is_whole_list(parts, 1):
+        raise BadSum("a sum is a list of whole numbers from 1 on")

@@ -10,6 +10,11 @@ REFUSALS = (errors.BadFactor, errors.BadHeap, errors.BadLimit,
             errors.BadNumber, errors.BadSum, errors.BadTaking)
 
 FACTORS = tuple(range(1, 31))
+SMALL_FACTORS = (1, 2, 3, 5, 30)
+GREAT_FACTORS = (1, 2, 3, 7, 17, 30)
+
+# Of forty figures each.
+GREAT_HEAPS = (10 ** 39, 10 ** 39 + 1, 7 ** 47, int("1234567890" * 4), 9 * 10 ** 39 + 12345, 10 ** 40 - 1)
 
 
 def row_by_words(factor, many):
@@ -20,6 +25,50 @@ def row_by_words(factor, many):
         least = next(step for step in row if step * factor >= ahead)
         row.append(ahead + least)
     return row
+
+
+def sums_by_total(factor, most):
+    """Every falling list by the words of point 3 that comes to no more than `most`, by what it comes to."""
+    row = [step for step in row_by_words(factor, most + 1) if step <= most]
+    found = {total: [] for total in range(most + 1)}
+    begun = [[]]
+    while begun:
+        parts = begun.pop()
+        found[sum(parts)].append(parts)
+        for step in row:
+            if (not parts or parts[-1] > factor * step) and sum(parts) + step <= most:
+                begun.append([*parts, step])
+    return found
+
+
+def steps_past(factor, most):
+    """As row_by_words, up to a step beyond `most`, and without looking through the whole row for each."""
+    row = [1]
+    at = 0
+    while row[-1] <= most:
+        while row[at] * factor < row[-1]:
+            at += 1
+        row.append(row[-1] + row[at])
+    return dict.fromkeys(row)
+
+
+def is_sum_by_words(factor, heap, parts, steps):
+    """Whether the list is a sum by the words of point 3, of these steps, that comes to the heap."""
+    falling = all(part > factor * below for part, below in zip(parts, parts[1:]))
+    return falling and all(part in steps for part in parts) and sum(parts) == heap
+
+
+def winners(factor, heaps):
+    """Who is to take can win: found by trying all takings, by heap and limit, up to `heaps`.
+
+    A limit beyond the heap is the same as the heap, so the limits of a heap go no further.
+    """
+    can_win = {}
+    for heap in range(heaps + 1):
+        for limit in range(heap + 1):
+            can_win[heap, limit] = any(
+                not can_win[heap - taking, min(factor * taking, heap - taking)] for taking in range(1, limit + 1))
+    return can_win
 
 
 class Unfriendly:
@@ -80,6 +129,16 @@ def no_lists():
     return [True, False, None, 0, 1, 2, -1, "", "1", "21", b"", b"\x01", (), (1,), (5, 2), {}, {5: 2}, set(), {1},
             1.0, Fraction(1), range(1, 2), iter([1]), (part for part in [1]), {1: 1}.keys(), object(), list, sum,
             Ellipsis, Unfriendly(), Posing(list), SlyList([1])]
+
+
+def no_factors():
+    """Whatever is no factor, new at each call."""
+    return [0, -1, -2, -30, 31, 32, 1000, 10 ** 50, -10 ** 50] + no_numbers()
+
+
+def no_heaps():
+    """Whatever is no heap, and no limit, new at each call."""
+    return [-1, -2, -10 ** 50] + no_numbers()
 
 
 def assert_refused(test, refusal, function, *given):

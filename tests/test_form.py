@@ -7,15 +7,31 @@ from pathlib import Path
 
 PACKAGE = Path(__file__).resolve().parent.parent / "takeagain"
 
+# Each function with its parameters, each class with its methods and theirs.
 INTERFACE = {
-    "errors.py": {"TakeError": None, "BadFactor": None, "BadHeap": None, "BadLimit": None,
-                  "BadNumber": None, "BadSum": None, "BadTaking": None},
+    "errors.py": {"TakeError": {}, "BadFactor": {}, "BadHeap": {}, "BadLimit": {},
+                  "BadNumber": {}, "BadSum": {}, "BadTaking": {}},
     "steps.py": {"step_by": ["factor", "number"], "sum_of": ["factor", "heap"], "whole": ["factor", "parts"]},
+    "answers.py": {"Answer": {},
+                   "Lost": {"__init__": ["self", "parts"], "shows": ["self", "factor", "heap", "limit"]},
+                   "Won": {"__init__": ["self", "taking"], "shows": ["self", "factor", "heap", "limit"]}},
+    "taking.py": {"told": ["factor", "heap", "limit"], "behind": ["factor", "heap", "limit", "taking"]},
 }
 
 
 def sources():
     return {path.name: path.read_text(encoding="utf-8") for path in sorted(PACKAGE.glob("*.py"))}
+
+
+def defined_in(body):
+    """What is defined in this body itself: functions with their parameters, classes with their methods."""
+    defined = {}
+    for node in body:
+        if isinstance(node, ast.FunctionDef):
+            defined[node.name] = [argument.arg for argument in node.args.args]
+        if isinstance(node, ast.ClassDef):
+            defined[node.name] = defined_in(node.body)
+    return defined
 
 
 class Form(unittest.TestCase):
@@ -28,16 +44,11 @@ class Form(unittest.TestCase):
 
     def test_the_interface_is_defined_in_its_files(self):
         for name, interface in INTERFACE.items():
-            defined = {}
-            for node in ast.parse(sources()[name]).body:
-                if isinstance(node, ast.FunctionDef):
-                    defined[node.name] = [argument.arg for argument in node.args.args]
-                if isinstance(node, ast.ClassDef):
-                    defined[node.name] = None
-            for word, arguments in interface.items():
+            defined = defined_in(ast.parse(sources()[name]).body)
+            for word, listed in interface.items():
                 with self.subTest(file=name, word=word):
                     self.assertIn(word, defined)
-                    self.assertEqual(defined[word], arguments)
+                    self.assertEqual(defined[word], listed)
 
     def test_imports_are_from_the_package(self):
         for name, text in sources().items():
@@ -47,6 +58,13 @@ class Form(unittest.TestCase):
                     if isinstance(node, ast.ImportFrom):
                         self.assertEqual(node.level, 0)
                         self.assertTrue(node.module.startswith("takeagain."))
+
+    def test_no_file_and_nothing_from_outside_is_asked_for(self):
+        barred = {"open", "input", "print", "exec", "eval", "compile", "__import__", "globals", "vars", "id", "hash"}
+        for name, text in sources().items():
+            named = {node.id for node in ast.walk(ast.parse(text)) if isinstance(node, ast.Name)}
+            with self.subTest(file=name):
+                self.assertEqual(named & barred, set())
 
     def test_sizes(self):
         for name, text in sources().items():

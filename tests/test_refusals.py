@@ -4,21 +4,11 @@ import unittest
 
 from takeagain.errors import BadFactor, BadHeap, BadNumber, BadSum
 from takeagain.steps import step_by, sum_of, whole
-from tests.support import assert_refused, no_lists, no_numbers, row_by_words
-
-NO_FACTORS_OF_RIGHT_KIND = [0, -1, -2, -30, 31, 32, 1000, 10 ** 50, -10 ** 50]
-
-
-def no_factors():
-    return NO_FACTORS_OF_RIGHT_KIND + no_numbers()
+from tests.support import assert_refused, no_factors, no_heaps, no_lists, no_numbers, row_by_words
 
 
 def no_step_numbers():
     return [-1, -2, -3000, 3001, 3002, 10 ** 6, 10 ** 50, -10 ** 50] + no_numbers()
-
-
-def no_heaps():
-    return [-1, -2, -10 ** 50] + no_numbers()
 
 
 def no_sums_by_2():

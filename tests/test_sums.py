@@ -4,34 +4,9 @@ import unittest
 
 from takeagain.errors import BadSum
 from takeagain.steps import sum_of, whole
-from tests.support import FACTORS, row_by_words
+from tests.support import FACTORS, row_by_words, steps_past, sums_by_total
 
 GREAT_HEAPS = (10 ** 40, 10 ** 40 - 1, 3 ** 90 + 7, 2 ** 200, 987654321 ** 7, int("123456789" * 60), 10 ** 1500 + 1)
-
-
-def sums_by_total(factor, most):
-    """Every falling list by the words of point 3 that comes to no more than `most`, by what it comes to."""
-    row = [step for step in row_by_words(factor, most + 1) if step <= most]
-    found = {total: [] for total in range(most + 1)}
-    begun = [[]]
-    while begun:
-        parts = begun.pop()
-        found[sum(parts)].append(parts)
-        for step in row:
-            if (not parts or parts[-1] > factor * step) and sum(parts) + step <= most:
-                begun.append([*parts, step])
-    return found
-
-
-def steps_past(factor, most):
-    """As row_by_words, up to a step beyond `most`, and without looking through the whole row for each."""
-    row = [1]
-    at = 0
-    while row[-1] <= most:
-        while row[at] * factor < row[-1]:
-            at += 1
-        row.append(row[-1] + row[at])
-    return dict.fromkeys(row)
 
 
 class SumsCase(unittest.TestCase):
